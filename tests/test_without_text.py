@@ -1,8 +1,9 @@
-"""Point 9, of at, find, common and twice: what they answer without a text."""
+"""Point 9: what the calls but open and back answer without a text."""
 
 import unittest
 
-from plain import HIGHEST, LOWEST, at, common, find, find_refused, opening, told, twice
+from plain import (HIGHEST, HIGHEST_K, LOWEST, at, back_refused, common, find, find_refused, opening, piece, pieces,
+                   told, turn, twice)
 
 ANY = (LOWEST, -1, 0, 1, 5, 65536, 65537, HIGHEST)
 
@@ -33,9 +34,23 @@ class WithoutText(unittest.TestCase):
         for times in (LOWEST, -2, -1, 0, 1, 65537, HIGHEST):
             self.assertEqual(told(twice(times)), [[-2]], times)
 
+    def test_pieces(self):
+        self.assertEqual(told(pieces(), pieces()), [[-4], [-4]])
+
+    def test_piece_whatever_k_is(self):
+        for k in (0, 1, 5, 65536, 65537, HIGHEST, HIGHEST + 1, HIGHEST_K):
+            self.assertEqual(told(piece(k)), [[-4]], k)
+
+    def test_turn(self):
+        self.assertEqual(told(turn(), turn()), [[-4], [-4]])
+
+    def test_back_out_of_range(self):
+        self.assertEqual(told(back_refused(0, 0), back_refused(3, 3), pieces()), [[-2], [-2], [-4]])
+
     def test_an_open_later_on(self):
-        given = told(at(0), twice(2), opening(b"aa"), at(0), twice(2))
-        self.assertEqual(given, [[-4], [-4], [0], [1], [1, 1, 0]])
+        given = told(at(0), twice(2), pieces(), piece(0), turn(), opening(b"aa"), at(0), twice(2), pieces(), piece(0),
+                     turn())
+        self.assertEqual(given, [[-4]] * 5 + [[0], [1], [1, 1, 0], [0, 2], [0, 0, 1], [1, *b"aa"]])
 
 
 if __name__ == "__main__":

@@ -1,1 +1,1 @@
-"""A text by its ends: where each row of bytes stands and what comes twice."""
+"""A text by its ends: where each row of bytes stands, what comes twice, the text turned by its order and back."""

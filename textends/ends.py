@@ -8,6 +8,10 @@ AT = 2
 FIND = 3
 COMMON = 4
 TWICE = 5
+PIECES = 6
+PIECE = 7
+TURN = 8
+BACK = 9
 
 
 class UnknownCall(ValueError):
@@ -19,10 +23,14 @@ def call_size(calls, begin):
     number = calls[begin]
     if number == HOLD or number == FIND:
         return 3 + calls[begin + 2]
+    if number == BACK:
+        return 4 + calls[begin + 3]
     if number == COMMON:
         return 3
-    if number == AT or number == TWICE:
+    if number == AT or number == TWICE or number == PIECE:
         return 2
+    if number == PIECES or number == TURN:
+        return 1
     raise UnknownCall(f"no call has the number {number}")
 
 
@@ -37,7 +45,15 @@ def answer(holder, call):
         return holder.find(call[1], call[3:])
     if number == COMMON:
         return holder.common(call[1], call[2])
-    return holder.twice(call[1])
+    if number == TWICE:
+        return holder.twice(call[1])
+    if number == PIECES:
+        return holder.pieces()
+    if number == PIECE:
+        return holder.piece(call[1])
+    if number == TURN:
+        return holder.turn()
+    return holder.back(call[1], call[2], call[4:])
 
 
 def answers(calls):

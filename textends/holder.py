@@ -1,8 +1,11 @@
 """The holder of a text: it answers the calls, each with a list of whole numbers."""
 
 from textends.order import neighbours_share, numbers_in_order, order_ends
+from textends.pieces import end_with_new, pieces_before, run_behind
 from textends.runs import best_runs
+from textends.turning import text_back, turn_text
 
+NONE_SUCH = -1
 OUT_OF_RANGE = -2
 NO_TEXT = -4
 LONGEST = 65536
@@ -23,8 +26,12 @@ def ends_up_to(text, order, what, equal_too):
     return low
 
 
+def is_length(n):
+    return 1 <= n and n <= LONGEST
+
+
 class Holder:
-    """At first without a text: then the text and all that is made of it are empty."""
+    """An empty text stands for none, as at first; what is made of the text is read only where there is one."""
 
     def __init__(self):
         self.text = []
@@ -32,15 +39,17 @@ class Holder:
         self.numbers = []
         self.shared = []
         self.best = []
+        self.before = []
 
     def hold(self, n, text):
-        if n < 1 or n > LONGEST:
+        if not is_length(n):
             return [OUT_OF_RANGE]
         self.text = list(text)
         self.order = order_ends(self.text)
         self.numbers = numbers_in_order(self.order)
         self.shared = neighbours_share(self.text, self.order, self.numbers)
         self.best = best_runs(self.shared)
+        self.before = pieces_before(self.order, self.shared)
         return [0]
 
     def has_place(self, i):
@@ -54,7 +63,7 @@ class Holder:
         return [self.order[k]]
 
     def find(self, length, what):
-        if length < 1 or length > LONGEST:
+        if not is_length(length):
             return [OUT_OF_RANGE]
         if not self.text:
             return [NO_TEXT]
@@ -88,3 +97,32 @@ class Holder:
         if length == 0:
             return [0]
         return [length, length, min(self.order[run[1]:run[1] + run[2]])]
+
+    def pieces(self):
+        if not self.text:
+            return [NO_TEXT]
+        return [0, self.before[-1]]
+
+    def piece(self, k):
+        if not self.text:
+            return [NO_TEXT]
+        if k >= self.before[-1]:
+            return [NONE_SUCH]
+        first = end_with_new(self.before, k)
+        length = self.shared[first] + 1 + k - self.before[first]
+        behind = run_behind(self.shared, first, length)
+        return [0, min(self.order[first:behind]), length]
+
+    def turn(self):
+        if not self.text:
+            return [NO_TEXT]
+        return [self.numbers[0]] + turn_text(self.text, self.order)
+
+    def back(self, n, first, turned):
+        if not is_length(n) or first < 0 or first >= n:
+            return [OUT_OF_RANGE]
+        self.text = []
+        text = text_back(turned, first)
+        if len(text) < n:
+            return [NONE_SUCH]
+        return [0] + text
